@@ -6,6 +6,8 @@ HIGHEST = 4294967295
 JOIN = [8]
 END = [10]
 TICK = [2]
+THREADS = [8]
+STATE = [10]
 
 
 def say(n):
@@ -86,8 +88,24 @@ def stop(owner):
     return [5, owner]
 
 
+def value(which):
+    return [6, which]
+
+
+def set_value(which, number):
+    return [7, which, number]
+
+
+def thread(number):
+    return [9, number]
+
+
+ALL_VALUES = [value(which) for which in range(10)]
+
+
 def ask(*calls):
     """The answer to each of these calls, with the lengths checked and taken off."""
+    assert 1 <= len(calls) <= 40, len(calls)
     given = answers(sum(calls, []))
     split = []
     at = 0
@@ -101,3 +119,15 @@ def ask(*calls):
 
 def last(*calls):
     return ask(*calls)[-1]
+
+
+def without(at, given):
+    """The answers but the one at this place."""
+    return given[:at] + given[at + 1:]
+
+
+def shown(*calls):
+    """All that can be seen behind these calls: the state, the threads, each of them, the numbers of all."""
+    state, numbers_of = ask(*calls, STATE, THREADS)[-2:]
+    each = [thread(number) for number in numbers_of[1::3]]
+    return [state, numbers_of] + ask(*calls, *each, *ALL_VALUES)[len(calls):]

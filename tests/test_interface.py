@@ -1,36 +1,57 @@
 """answers: the form of the calls and of what is given back."""
 
-import random
 import unittest
 
 from tests.helper import (
-    END, JOIN, TICK, add_all, begin, begin_own, go, hear, say, script, send, stop, stop_order, ticks, wait, word,
+    END, JOIN, STATE, THREADS, TICK, add_all, ask, begin, begin_for, go, hear, say, script, set_own, set_value, stop,
+    thread, ticks, value, wait, word,
 )
 from waitingscripts.threads import answers
 
-TOLD = ((999,), (99,), (9,), (9,), (1, 9, 999), (1, 9, 999), (1, 9, 999, 20), (6, 100), (), (99,), ())
+ZEROS = [0] * 10
 
-
-def random_orders(source):
-    orders = []
-    for at in range(source.randint(0, 12)):
-        order = source.choice((0, 1, 2, 3, 4, 5, 6, 6, 7, 7, 7, 8, 9, 10))
-        told = [source.randint(0, min(highest, source.choice((2, highest)))) for highest in TOLD[order]]
-        orders.append([order] + told)
-    return orders
-
-
-def random_call(source):
-    call = source.randint(0, 5)
-    if call == 0:
-        return script(*random_orders(source))
-    many = (0, 2, 0, 1, 1, 1)[call]
-    return [call] + [source.choice((0, 1, 2, 5, 9, 10, 51, 100)) for number in range(many)]
-
-
-def random_calls(source):
-    first = [script(*random_orders(source)) for number in range(4)] + [[1, 0, 0], [1, 0, 1], [1, 1, 2], [1, 2, 0]]
-    return sum(first + [random_call(source) for number in range(source.randint(1, 32))], [])
+FORTY = (
+    (STATE, [0, 0, 0, 0]),
+    (THREADS, [0]),
+    (value(0), [0]),
+    (thread(0), [-2]),
+    (begin(0, 0), [-2]),
+    (script(say(1), wait(2), add_all(0, 600), go(0)), [0]),
+    (script(begin_for(0, 8), JOIN, say(2), END), [1]),
+    (script(set_own(9, 4), hear(3), say(3)), [2]),
+    (script(say(1000)), [-1]),
+    (STATE, [0, 3, 0, 0]),
+    (begin(0, 5), [0]),
+    (begin(1, 6), [1]),
+    (begin(2, 6), [2]),
+    (begin(0, 100), [-1]),
+    (THREADS, [3, 0, 5, 0, 1, 6, 1, 2, 6, 2]),
+    (thread(1), [0, 0, 0] + ZEROS),
+    (TICK, [4, 2, 0, 1, 3, 1]),
+    (thread(0), [2, 1, 2] + ZEROS),
+    (thread(1), [2, 3, 3] + ZEROS),
+    (thread(2), [2, 2, 3, 0, 0, 0, 0, 0, 0, 0, 0, 0, 4]),
+    (TICK, [4, 0]),
+    (thread(3), [2, 1, 1] + ZEROS),
+    (ticks(2), [4, 1, 3, 2, 0, 1, 3, 1]),
+    (value(0), [200]),
+    (set_value(0, 999), [0]),
+    (value(0), [999]),
+    (set_value(10, 1), [-1]),
+    (word(3), [1]),
+    (thread(2), [2, 0, 0, 0, 0, 0, 0, 0, 0, 0, 0, 0, 4]),
+    (stop(8), [1]),
+    (thread(3), [-2]),
+    (thread(1), [2, 0, 0] + ZEROS),
+    (TICK, [1, 3, 0, 1, 1, 2, 2, 3]),
+    (value(0), [599]),
+    (THREADS, [1, 0, 5, 0]),
+    (word(10), [-1]),
+    (ticks(51), [-1]),
+    (stop(5), [1]),
+    (TICK, [0, 0]),
+    (STATE, [6, 3, 0, 4]),
+)
 
 
 class Form(unittest.TestCase):
@@ -45,6 +66,14 @@ class Form(unittest.TestCase):
     def test_each_call_by_its_numbers(self):
         calls = [0, 9, 0, 7, 2, 3, 0, 8, 1, 9, 10, 1, 0, 5, 2, 4, 3, 3, 2, 4, 3, 5, 5, 2]
         given = [1, 0, 1, 0, 4, 1, 1, 0, 7, 1, 1, 6, 1, 1, 2, 1, 0, 8, 1, 0, 1, 1, 2, 0, 0]
+        self.assertEqual(answers(calls), given)
+
+    def test_each_call_that_shows_by_its_numbers(self):
+        calls = [7, 9, 5, 6, 9, 8, 10, 0, 4, 4, 0, 1, 6, 1, 0, 3, 2, 8, 10, 6, 10, 7, 0, 1000, 9, 1]
+        given = [1, 0, 1, 5, 1, 0, 4, 0, 0, 0, 0, 1, 0, 1, 0, 2, 0, 0, 1, 0, 4, 1, 1, 0, 1, 1, -1, 1, -1, 1, -2]
+        self.assertEqual(answers(calls), given)
+        calls = [0, 6, 4, 0, 1, 6, 1, 7, 1, 0, 3, 2, 8, 9, 0, 10]
+        given = [1, 0, 1, 0, 2, 1, 0, 4, 1, 0, 3, 0, 13, 2, 1, 7, 0, 6, 0, 0, 0, 0, 0, 0, 0, 0, 4, 1, 1, 1, 1]
         self.assertEqual(answers(calls), given)
 
     def test_a_row_with_numbers_like_calls(self):
@@ -66,17 +95,35 @@ class Form(unittest.TestCase):
         self.assertEqual(given[4:7], [2 + 50 * (2 + 190 * 2), 1, 50])
 
     def test_whole_numbers_in_a_list(self):
-        given = answers(script(say(1), hear(1)) + begin(0) + ticks(3) + word(1) + word(10) + stop(0) + begin(1))
-        self.assertIs(type(given), list)
-        self.assertEqual({type(number) for number in given}, {int})
+        for calls in (
+            script(say(1), hear(1)) + begin(0) + ticks(3) + word(1) + word(10) + stop(0) + begin(1),
+            sum([call for call, answer in FORTY], []),
+        ):
+            given = answers(calls)
+            self.assertIs(type(given), list)
+            self.assertEqual({type(number) for number in given}, {int})
+
+
+class FortyCalls(unittest.TestCase):
+    """All eleven calls in one line, each with what it answers."""
+
+    def test_all_eleven_are_among_them(self):
+        self.assertEqual(len(FORTY), 40)
+        self.assertEqual({call[0] for call, answer in FORTY}, set(range(11)))
+
+    def test_each_answer(self):
+        given = ask(*[call for call, answer in FORTY])
+        for at, (call, answer) in enumerate(FORTY):
+            self.assertEqual(given[at], answer, (at, call))
+
+    def test_the_first_ones_alone_answer_the_same(self):
+        for many in range(1, 41):
+            given = ask(*[call for call, answer in FORTY[:many]])
+            self.assertEqual(given, [answer for call, answer in FORTY[:many]])
 
 
 class NothingIsKept(unittest.TestCase):
-    CALLS = (
-        script(say(1), wait(1), add_all(0, 400), go(0)) + script(begin_own(0), JOIN, END) + begin(0, 3) + begin(1, 4)
-        + TICK + ticks(4) + script(hear(2), send(2), stop_order(3)) + begin(2, 5) + ticks(2) + word(2) + ticks(2)
-        + stop(4) + ticks(51) + script(say(1000)) + TICK
-    )
+    CALLS = sum([call for call, answer in FORTY], [])
 
     def test_the_list_is_as_it_was(self):
         calls = list(self.CALLS)
@@ -106,35 +153,8 @@ class NothingIsKept(unittest.TestCase):
 
     def test_other_calls_between(self):
         first = answers(list(self.CALLS))
-        answers(script(say(9), wait(9)) + begin(0, 3) + ticks(50))
+        answers(script(say(9), set_own(9, 8), wait(9)) + begin(0, 3) + ticks(50) + set_value(0, 7) + begin(0))
         self.assertEqual(answers(list(self.CALLS)), first)
-
-
-class ManyLines(unittest.TestCase):
-    """Lines drawn from a fixed source: what must hold for every line."""
-
-    def test_what_holds_for_every_line(self):
-        source = random.Random(7)
-        for line in range(300):
-            calls = random_calls(source)
-            kept = list(calls)
-            given = answers(calls)
-            self.assertEqual(calls, kept)
-            self.assertEqual(answers(calls), given)
-            self.check_form(given)
-
-    def check_form(self, given):
-        at = 0
-        while at < len(given):
-            answer = given[at + 1:at + 1 + given[at]]
-            self.assertEqual(len(answer), given[at])
-            if min(answer) < 0:
-                self.assertEqual(len(answer), 1)
-                self.assertIn(answer[0], (-1, -2, -5))
-            if len(answer) > 1:
-                self.assertLessEqual(answer[0], 12)
-            at += 1 + given[at]
-        self.assertEqual(at, len(given))
 
 
 if __name__ == "__main__":

@@ -15,7 +15,7 @@ HIGHEST_WORD = 9
 HOW_MANY_NUMBERS = 10
 NUMBERS_REST_BY = 1000
 
-# What a thread waits for.
+# What a thread waits for; the call thread answers these.
 NOTHING = 0
 TICKS = 1
 WORD = 2
@@ -84,8 +84,12 @@ class Play:
     def is_full(self):
         return len(self.threads) >= MOST_THREADS
 
-    def is_there(self, number):
-        return any([thread.number == number for thread in self.threads])
+    def thread_numbered(self, number):
+        """The thread with this number, or None if it never was or is over."""
+        for thread in self.threads:
+            if thread.number == number:
+                return thread
+        return None
 
     def begin_thread(self, script, owner):
         thread = Thread(self.ever_begun, owner, script)
@@ -159,7 +163,8 @@ def do_begin(play, thread, told):
 
 
 def do_join(play, thread, told):
-    if thread.begun_last is not None and play.is_there(thread.begun_last):
+    # None is no thread's number, so who has none begun last finds none.
+    if play.thread_numbered(thread.begun_last) is not None:
         thread.wait_for(THREAD, thread.begun_last)
 
 
@@ -294,11 +299,45 @@ def call_stop(play, told):
     return [play.stop_owner(told[0])]
 
 
+def call_value(play, told):
+    if told[0] >= HOW_MANY_NUMBERS:
+        return [OUT_OF_BOUNDS]
+    return [play.numbers[told[0]]]
+
+
+def call_set(play, told):
+    if told[0] >= HOW_MANY_NUMBERS or told[1] >= NUMBERS_REST_BY:
+        return [OUT_OF_BOUNDS]
+    play.numbers[told[0]] = told[1]
+    return [0]
+
+
+def call_threads(play, told):
+    answer = [len(play.threads)]
+    for thread in play.threads:
+        answer.extend([thread.number, thread.owner, thread.script])
+    return answer
+
+
+def call_thread(play, told):
+    thread = play.thread_numbered(told[0])
+    if thread is None:
+        return [NOT_THERE]
+    return [thread.place, thread.waits, thread.awaited] + thread.numbers
+
+
+def call_state(play, told):
+    return [play.ticks_done, len(play.scripts), len(play.threads), play.ever_begun]
+
+
 # By the calls' numbers.
-CALLS = (call_script, call_begin, call_tick, call_ticks, call_word, call_stop)
+CALLS = (
+    call_script, call_begin, call_tick, call_ticks, call_word, call_stop,
+    call_value, call_set, call_threads, call_thread, call_state,
+)
 
 # How many numbers are told with each call; script's row tells it itself.
-TOLD_WITH_CALL = (0, 2, 0, 1, 1, 1)
+TOLD_WITH_CALL = (0, 2, 0, 1, 1, 1, 1, 2, 0, 1, 0)
 
 
 def first_told(calls, at):
